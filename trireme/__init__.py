@@ -1,0 +1,1 @@
+"""Trireme: a compiler for words of many slots on machines that never wait."""
