@@ -48,21 +48,39 @@ class State:
             return number
         return self.registers.get(number, 0)
 
-    def execute(self, instruction):
-        """Do one instruction."""
+    def begin(self, instruction):
+        """Let an instruction read its operands; return its result.
+
+        A result is a place, its number and the integer that it gets. An out is
+        put out at once and has None.
+        """
         op = instruction[0]
         if op == "out":
             self.outputs.append(self.worth(instruction[1]))
-        elif op == "store":
+            return None
+        if op == "store":
             cell = self.worth(instruction[1]) % CELLS
-            self.cells[cell] = self.worth(instruction[2])
-        elif op == "load":
+            return "cell", cell, self.worth(instruction[2])
+        if op == "load":
             cell = self.worth(instruction[2]) % CELLS
-            self.registers[instruction[1]] = self.cells[cell]
+            return "reg", instruction[1], self.cells[cell]
+        a = self.worth(instruction[2])
+        b = self.worth(instruction[3])
+        return "reg", instruction[1], operate(op, a, b)
+
+    def finish(self, result):
+        """Let a result arrive in its place."""
+        place, number, content = result
+        if place == "cell":
+            self.cells[number] = content
         else:
-            a = self.worth(instruction[2])
-            b = self.worth(instruction[3])
-            self.registers[instruction[1]] = operate(op, a, b)
+            self.registers[number] = content
+
+    def execute(self, instruction):
+        """Do one instruction, whose result arrives at once."""
+        result = self.begin(instruction)
+        if result is not None:
+            self.finish(result)
 
     def execute_loop(self, number, body):
         """Do a loop; its number of turns is settled before the first one."""

@@ -1,26 +1,12 @@
 """The text of a program: how it is read and printed (points 3, 7 and 8)."""
 
 from trireme.errors import LimitError, ParseError
+from trireme.forms import FORMS
 from trireme.plain import HIGHEST, LOWEST, REGISTERS
 
 MOST_SIGNS = 4000
 MOST_STATEMENTS = 12
 MOST_INSTRUCTIONS = 12
-
-# What stands behind the first word of a line: a target must be a register,
-# an operand may be a register or an integer.
-FORMS = {
-    "add": ("target", "operand", "operand"),
-    "sub": ("target", "operand", "operand"),
-    "mul": ("target", "operand", "operand"),
-    "and": ("target", "operand", "operand"),
-    "less": ("target", "operand", "operand"),
-    "load": ("target", "operand"),
-    "store": ("operand", "operand"),
-    "out": ("operand",),
-    "loop": ("operand",),
-    "end": (),
-}
 
 
 def parse(text):
@@ -71,15 +57,22 @@ def may_stand(word, inside):
 
 def has_form(words):
     """Tell whether the words of a line are those of the language."""
-    if words[0] not in FORMS:
-        return False
-    form = FORMS[words[0]]
-    if len(words) != len(form) + 1:
+    form = form_of(words[0])
+    if form is None or len(words) != len(form) + 1:
         return False
     for part, word in zip(form, words[1:]):
         if not is_written(part, word):
             return False
     return True
+
+
+def form_of(word):
+    """Return the form of what stands behind this first word, None if unknown."""
+    if word == "loop":
+        return ("operand",)
+    if word == "end":
+        return ()
+    return FORMS.get(word)
 
 
 def is_written(part, word):
