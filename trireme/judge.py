@@ -4,6 +4,7 @@ They take any values: what has not the form of a machine, a block, a schedule
 or a reason is not right.
 """
 
+from trireme.bounds import busy_number, divide_up
 from trireme.forms import are_kinds, is_block, is_number, is_tuple, is_word
 from trireme.machines import has_machine_form
 from trireme.needs import loop_needs, needs
@@ -88,9 +89,7 @@ def is_busy(machine, block, reason):
     _, kinds, number = reason
     if not are_kinds(kinds) or len(kinds) == 0:
         return False
-    tasks = [instruction for instruction in block if instruction[0] in kinds]
-    able = [slot for slot in machine[1] if any([kind in slot for kind in kinds])]
-    return number == divide_up(len(tasks), len(able))
+    return number == busy_number(machine, block, kinds)
 
 
 def is_row(machine, block, reason):
@@ -142,8 +141,3 @@ def total_wait(wanted, steps):
             return None
         total += table[step]
     return total
-
-
-def divide_up(number, by):
-    """Return a quotient, rounded up."""
-    return -(-number // by)
